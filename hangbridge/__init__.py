@@ -1,0 +1,1 @@
+"""Hangbridge: a controller that reaches its switches by their own tables."""
