@@ -72,6 +72,7 @@ class Language(unittest.TestCase):
             self.assertIn(node.module, modules, shown(path, node))
             origin = self.trees[PACKAGE / (node.module.split(".")[1] + ".py")]
             here = {child.name for child in origin.body if isinstance(child, (ast.FunctionDef, ast.ClassDef))}
+            here |= {child.targets[0].id for child in origin.body if isinstance(child, ast.Assign)}
             for name in node.names:
                 self.assertIn(name.name, here, shown(path, node))
 
