@@ -9,7 +9,7 @@ class RoomError(BridgeError):
     """There is no room at a place."""
 
     def __init__(self, place):
-        BridgeError.__init__(self, f"no room: {place}")
+        super().__init__(f"no room: {place}")
         self.place = place
 
 
@@ -17,7 +17,7 @@ class StateError(BridgeError):
     """Something may not be done in a state."""
 
     def __init__(self, state):
-        BridgeError.__init__(self, f"not in this state: {state}")
+        super().__init__(f"not in this state: {state}")
         self.state = state
 
 
@@ -25,7 +25,7 @@ class CommandError(BridgeError):
     """A line of a script is not a command."""
 
     def __init__(self, line):
-        BridgeError.__init__(self, f"not a command: line {line}")
+        super().__init__(f"not a command: line {line}")
         self.line = line
 
 
@@ -33,7 +33,7 @@ class PolicyError(BridgeError):
     """A part of a policy, to which a way of indexes leads, is not as told."""
 
     def __init__(self, way):
-        BridgeError.__init__(self, f"not a policy: {way}")
+        super().__init__(f"not a policy: {way}")
         self.way = way
 
 
@@ -41,5 +41,5 @@ class MisreadError(BridgeError):
     """A text cannot go on as it does at an index."""
 
     def __init__(self, at):
-        BridgeError.__init__(self, f"misread at index {at}")
+        super().__init__(f"misread at index {at}")
         self.at = at

@@ -22,6 +22,14 @@ def leaves(part):
     return [leaf for inner in parts_of(part) for leaf in leaves(inner)]
 
 
+def copied(part):
+    """Return a policy or a test that is equal and shares no list with this one."""
+    if part[0] in LEAF_NAMES:
+        return part
+    inner = [copied(one) for one in parts_of(part)]
+    return (part[0], inner if isinstance(part[1], list) else inner[0])
+
+
 def may_have(field, number):
     """Return whether a text is a field that can have a number."""
     if field not in FIELD_PLACES:

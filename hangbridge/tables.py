@@ -21,6 +21,14 @@ def done(outs, header):
     return sorted({(port, changed(header, changes)) for port, changes in outs})
 
 
+def rules_do(rules, port, header):
+    """Return what the first of some rules that fits does with a header at a port; without one, nothing."""
+    for match, outs in rules:
+        if fits(match, port, header):
+            return done(outs, header)
+    return []
+
+
 class Table:
     """A table with control ways, data rules by versions, and a tag, a version or 0."""
 
@@ -84,7 +92,4 @@ class Table:
 
     def does(self, version, port, header):
         """Return what the first rule of a version that fits does with a header at a port."""
-        for match, outs in self.rules.get(version, []):
-            if fits(match, port, header):
-                return done(outs, header)
-        return []
+        return rules_do(self.rules.get(version, []), port, header)

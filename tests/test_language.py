@@ -11,7 +11,9 @@ FILES = sorted(path for path in PACKAGE.rglob("*.py"))
 
 # L8
 ALLOWED = set("""len range enumerate zip min max sum abs sorted reversed int str bool list tuple dict set isinstance
-    ord repr any all divmod Exception ValueError TypeError KeyError IndexError LookupError""".split())
+    ord repr any all divmod super Exception ValueError TypeError KeyError IndexError LookupError""".split())
+# L2
+LIBRARY = {"itertools": {"permutations"}}
 # L17
 NEVER_NAMES = {"register", "mro", "elements", "open", "input", "law", "version_info", "with_traceback", "add_note"}
 NEVER_WORDS = set("""type typing typing_extensions enum Enum IntEnum StrEnum Flag IntFlag Generic Protocol ABC ABCMeta
@@ -69,6 +71,10 @@ class Language(unittest.TestCase):
     def test_imports(self):
         modules = {"hangbridge." + path.stem for path in FILES}
         for path, node in self.nodes(ast.ImportFrom):
+            if node.module in LIBRARY:
+                self.assertLessEqual({name.name for name in node.names}, LIBRARY[node.module], shown(path, node))
+                self.assertEqual([name.asname for name in node.names], [None] * len(node.names), shown(path, node))
+                continue
             self.assertIn(node.module, modules, shown(path, node))
             origin = self.trees[PACKAGE / (node.module.split(".")[1] + ".py")]
             here = {child.name for child in origin.body if isinstance(child, (ast.FunctionDef, ast.ClassDef))}
@@ -79,7 +85,8 @@ class Language(unittest.TestCase):
     def test_no_import_circles(self):
         known = {path.stem: set() for path in FILES}
         for path, node in self.nodes(ast.ImportFrom):
-            known[path.stem].add(node.module.split(".")[1])
+            if node.module not in LIBRARY:
+                known[path.stem].add(node.module.split(".")[1])
         while known:
             free = [name for name, needs in known.items() if not needs & set(known)]
             self.assertTrue(free, known)

@@ -4,7 +4,7 @@ import random
 import unittest
 
 from hangbridge.errors import PolicyError
-from hangbridge.policies import after, check, does, link_policy, sets_field, test_holds as holds_in
+from hangbridge.policies import after, check, copied, does, link_policy, sets_field, test_holds as holds_in
 from tests.policy_samples import Drawing, leads
 
 STATE = (2, 3, 4, 5, 6)
@@ -247,6 +247,20 @@ class LinkPolicies(unittest.TestCase):
                     expected = [(*others[switch, port], *header)] if (switch, port) in others else []
                     self.assertEqual(after(policy, (switch, port, *header)), expected)
         self.assertEqual(links, [((1, 1), (2, 6)), ((1, 2), (3, 1)), ((2, 1), (3, 2))])
+
+
+class Copies(unittest.TestCase):
+    def test_copied(self):
+        policy = ("seq", [("test", ("not", ("all", [("is", "src", 3)]))), ("star", ("sum", [("set", "port", 2)]))])
+        before = copy.deepcopy(policy)
+        other = copied(policy)
+        self.assertEqual(other, policy)
+        other[1][0][1][1][1].clear()
+        other[1][1][1][1].clear()
+        other[1].clear()
+        self.assertEqual(policy, before)
+        self.assertEqual(copied(("sum", [])), ("sum", []))
+        self.assertEqual(copied(("test", ("any", []))), ("test", ("any", [])))
 
 
 class Sets(unittest.TestCase):
