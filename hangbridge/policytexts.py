@@ -11,9 +11,9 @@ DIGITS = "0123456789"
 SIGN_OF_IS = " = "
 SIGN_OF_SET = " := "
 SEPARATOR = ", "
-# The names of what has a list of parts, with their signs.
-TEST_LISTS = (("all", "&"), ("any", "|"))
-POLICY_LISTS = (("sum", "+"), ("seq", ";"))
+# The signs of what has a list of parts.
+TEST_SIGNS = {"all": "&", "any": "|"}
+POLICY_SIGNS = {"sum": "+", "seq": ";"}
 
 
 def in_brackets(sign, texts):
@@ -29,7 +29,7 @@ def show_test(test):
         return f"{test[1]}{SIGN_OF_IS}{test[2]}"
     if name == "not":
         return f"!{show_test(test[1])}"
-    return in_brackets("&" if name == "all" else "|", [show_test(part) for part in test[1]])
+    return in_brackets(TEST_SIGNS[name], [show_test(part) for part in test[1]])
 
 
 def show_policy(policy):
@@ -41,7 +41,7 @@ def show_policy(policy):
         return f"{policy[1]}{SIGN_OF_SET}{policy[2]}"
     if name == "star":
         return f"*{show_policy(policy[1])}"
-    return in_brackets("+" if name == "sum" else ";", [show_policy(part) for part in policy[1]])
+    return in_brackets(POLICY_SIGNS[name], [show_policy(part) for part in policy[1]])
 
 
 class Reader:
@@ -116,8 +116,8 @@ def read_test(reader, around):
     check_depth(reader, around)
     if reader.skip("!"):
         return ("not", read_test(reader, around + 1))
-    for name, sign in TEST_LISTS:
-        if reader.skip(sign):
+    for name in TEST_SIGNS:
+        if reader.skip(TEST_SIGNS[name]):
             return (name, read_parts(reader, around + 1, read_test))
     return read_leaf(reader, "is", SIGN_OF_IS)
 
@@ -131,8 +131,8 @@ def read_part(reader, around):
         return ("test", test)
     if reader.skip("*"):
         return ("star", read_part(reader, around + 1))
-    for name, sign in POLICY_LISTS:
-        if reader.skip(sign):
+    for name in POLICY_SIGNS:
+        if reader.skip(POLICY_SIGNS[name]):
             return (name, read_parts(reader, around + 1, read_part))
     return read_leaf(reader, "set", SIGN_OF_SET)
 

@@ -390,6 +390,16 @@ class BeginningAnew(unittest.TestCase):
                 self.assertEqual(barriers[0], old._barrier + 1)
 
 
+    def test_a_switch_that_is_none(self):
+        net = Net(PAIR)
+        net.reboot(3)
+        net.reboot(0)
+        self.assertEqual([agent.guest.boot for agent in net.agents.values()], [1, 1])
+        # A datum has a number all the same.
+        self.assertEqual((net.inject(3, (0, 0, 0)), net.inject(1, (0, 0, 0))), (1, 2))
+        self.assertEqual((net.agents[1].dropped, net.agents[2].dropped, net.events), (1, 0, []))
+
+
 class Policies(unittest.TestCase):
     def test_offered(self):
         net = Net(PAIR)

@@ -91,7 +91,8 @@ class Wrong(unittest.TestCase):
         self.assertMisread(text.replace("^", ""), text.index("^"))
 
     def test_at_the_beginning(self):
-        for text in ("^", "^x", "^ port := 1", "^)", "^(", "^]", "^!port = 1", "^&()", "^|()", "^= 1", "^:= 1", "^1", "^, "):
+        for text in ("^", "^x", "^ port := 1", "^)", "^(", "^]", "^!port = 1", "^&()", "^|()", "^= 1", "^:= 1", "^1", "^, ",
+                     "^ = 1", "^ := 1", "[^ = 1]", "*^ := 1", "+(^ := 1)", "[!^ = 1]"):
             self.marked(text)
 
     def test_fields(self):

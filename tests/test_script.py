@@ -177,6 +177,13 @@ class Numbers(Wrong):
         for word in ("lose", "double", "hasten"):
             self.assertNone(f"{word} 0 0 32")
 
+    def test_the_greatest_switch_and_port(self):
+        eight = ["switches 8", "link 7 6 8 6", "start"]
+        self.assertEqual(run(*eight, "deliver 8 6", "lose 8 6 31", "double 8 6 31", "hasten 8 6 31", "cut 8 6", "heal 8 6",
+                             "table 8", "inject 8 15 15 15", "reboot 8")[3:],
+                         ["empty", "empty", "empty", "empty", "cut", "heal", "table tag 0 ways - rules -", "datum 1",
+                          "reboot"])
+
     def test_ends(self):
         for word in ("cut", "heal"):
             self.assertEqual(told(word + " 1 2", word + " 2 1"), [word, word])
