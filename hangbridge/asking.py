@@ -80,7 +80,7 @@ def leading_to(following):
 def least_ranks(following):
     """Return the dict of the least ranks, from 0 on, of the places behind which nothing goes round for ever."""
     before = leading_to(following)
-    open_ways = {place: len(following[place]) for place in following}
+    missing = {place: len(following[place]) for place in following}
     found = {}
     row = [place for place in following if not following[place]]
     rank = 0
@@ -89,8 +89,8 @@ def least_ranks(following):
         for place in row:
             found[place] = rank
             for other in before[place]:
-                open_ways[other] -= 1
-                if open_ways[other] == 0:
+                missing[other] -= 1
+                if missing[other] == 0:
                     fresh.append(other)
         row = fresh
         rank += 1
