@@ -151,14 +151,12 @@ COMMANDS = {
 
 
 def offer(net, text):
-    """Offer the policy of a text; return the output lines, or None if there is none."""
-    try:
-        policy = read_policy(text)
-    except MisreadError:
+    """Offer the policy of a text; return the output lines, or None if there is no text, so that it is no command."""
+    if not text:
         return None
     try:
-        version = net.offer(policy)
-    except PolicyError:
+        version = net.offer(read_policy(text))
+    except (MisreadError, PolicyError):
         return ["refused policy"]
     except RoomError:
         return ["refused room"]

@@ -280,11 +280,42 @@ class Policies(Wrong):
         # What is no policy is found out first.
         self.assertEqual(told(THROUGH, "policy port := 9"), ["version 1", "refused policy"])
 
+    # None of these can be read, though some nearly can.
+    UNREAD = ["x", "+(", "1", " ", "-", "*", "[", "()", "policy", "port", "port = 1", "port:= 1", "port := 100", "port := 01",
+              "port := -1", " port := 1", "port := 1 ", "port := 1 port := 2", "+(port := 1,  port := 2)", "+(port := 1",
+              "+(port := 1))", "[dst := 1]", "[switch = 1", "Port := 1", "version 1", "*" * 21 + "port := 1"]
+
     def test_texts_that_cannot_be_read(self):
-        self.assertNone("policy", "policy ", "policy x", "policy  port := 1", "policy port := 1 ", "policy port:= 1",
-                        "policy port := 100", "policy +(port := 1,  port := 2)", "policy +(port := 1", "policy port = 1",
-                        "policy " + "*" * 21 + "port := 1", "policy 1")
+        for text in self.UNREAD:
+            with self.subTest(text):
+                # No version is taken, and the next policy does not find one that waits.
+                self.assertEqual(told("policy " + text, "state", THROUGH),
+                                 ["refused policy", "now 0 phase rest version 0", "present -", "version 1"])
         self.assertEqual(told("policy " + "*" * 20 + "port := 1"), ["version 1"])
+
+    def test_texts_that_cannot_be_read_one_after_the_other(self):
+        lines = ["policy " + text for text in self.UNREAD]
+        self.assertEqual(told(*lines), ["refused policy"] * len(lines))
+
+    def test_unread_while_a_policy_waits(self):
+        lines = [THROUGH, "policy x", THROUGH, "rounds 200", "policy +(", "state"]
+        self.assertEqual(told(*lines), ["version 1", "refused policy", "refused waits", "now 200", "refused policy",
+                                        "now 200 phase rest version 1", "present 1,2"])
+
+    def test_lines_behind_an_unread_one(self):
+        self.assertWrong(6, *STARTED, "policy x", "policy +(", "x", "policy x")
+        self.assertWrong(8, *STARTED, "policy x", "", "policy port := 9", "", "table 3")
+
+    def test_without_a_text(self):
+        self.assertNone("policy", "policy ")
+        self.assertWrong(5, *STARTED, "policy x", "policy")
+
+    def test_other_words(self):
+        self.assertNone("Policy x", " policy x", "policyx", "policies x", "policy+()")
+
+    def test_before_the_start(self):
+        self.assertWrong(1, "policy x")
+        self.assertWrong(3, *PAIR, "policy x", "start")
 
 
 class Shown(unittest.TestCase):
